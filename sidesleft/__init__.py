@@ -1,0 +1,1 @@
+"""What many sides leave: inequalities in a few unknowns, exactly."""
