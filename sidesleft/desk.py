@@ -1,11 +1,12 @@
 """The calls. Each takes whole numbers and rows of them, and answers a list of whole numbers."""
 
-from sidesleft.reckon import can_be_met, cut, meets_all
+from sidesleft.reckon import can_be_met, cut, in_one_row, meets_all, show_none_meets, without
 
 MOST_UNKNOWNS = 3
 MOST_SIDES = 8
 MOST_DIVISOR = 1000
 MOST_NUMBER = 1000
+MOST_TIMES = 1000000000
 
 
 def meets(d, q, sides, x):
@@ -22,6 +23,20 @@ def can(d, sides):
     return yes_or_no(can_be_met(d, cut(sides, d + 1)))
 
 
+def refutes(d, sides, y):
+    """1 if y, how often each side is taken, shows that no point meets them all, else 0; -1 is a refusal."""
+    if not (fit_sides(d, sides) and fit_times(y, len(sides) // (d + 1))):
+        return refusal()
+    return yes_or_no(show_none_meets(d, cut(sides, d + 1), y))
+
+
+def drop(d, k, sides):
+    """How many sides are left without unknown k, then these; -1 is a refusal."""
+    if not (fit_sides(d, sides) and fit_unknown(d, k)):
+        return refusal()
+    return counted(without(k, cut(sides, d + 1)))
+
+
 def refusal():
     return [-1]
 
@@ -30,17 +45,34 @@ def yes_or_no(holds):
     return [1 if holds else 0]
 
 
+def counted(rows):
+    return [len(rows)] + in_one_row(rows)
+
+
 def fit_unknowns(d):
     return 1 <= d <= MOST_UNKNOWNS
+
+
+def fit_unknown(d, k):
+    return 0 <= k < d
 
 
 def fit_divisor(q):
     return 1 <= q <= MOST_DIVISOR
 
 
+def fit_row(row, size, low, high):
+    return len(row) == size and all([low <= n <= high for n in row])
+
+
 def fit_numbers(row, size):
-    """Whether the row has so many numbers, none of them too great or too low."""
-    return len(row) == size and all([-MOST_NUMBER <= n <= MOST_NUMBER for n in row])
+    """Whether the row is so many numbers that sides, points and their like may have."""
+    return fit_row(row, size, -MOST_NUMBER, MOST_NUMBER)
+
+
+def fit_times(row, size):
+    """Whether the row is so many numbers that say how often something is taken."""
+    return fit_row(row, size, 0, MOST_TIMES)
 
 
 def fit_sides(d, sides):

@@ -6,6 +6,14 @@ def cut(row, size):
     return [row[start:start + size] for start in range(0, len(row), size)]
 
 
+def in_one_row(rows):
+    """The numbers of the rows, one row behind another."""
+    row = []
+    for part in rows:
+        row.extend(part)
+    return row
+
+
 def is_met(side, q, x):
     """Whether the point x, divided by q, meets the side."""
     d = len(x)
@@ -17,6 +25,16 @@ def is_met(side, q, x):
 def meets_all(sides, q, x):
     """Whether the point x, divided by q, meets each of the sides."""
     return all([is_met(side, q, x) for side in sides])
+
+
+def together(sides, y, i):
+    """Number i of the sides, added up so many times each as y says."""
+    return sum([side[i] * times for side, times in zip(sides, y)])
+
+
+def show_none_meets(d, sides, y):
+    """Whether the sides, so many times each as y says, have 0 for each unknown and b below 0."""
+    return all([together(sides, y, k) == 0 for k in range(d)]) and together(sides, y, d) < 0
 
 
 def joined(above, below, k):

@@ -25,9 +25,27 @@ CALLS = (
     ("can", (2, []), [1]),
     ("can", (2, [1]), [-1]),
     ("can", (-1, []), [-1]),
+    ("refutes", (1, [1, 1, -1, -2], [3, 3]), [1]),
+    ("refutes", (1, [1, 1, -1, -2], [3, 2]), [0]),
+    ("refutes", (3, CUBE + [-1, -1, -1, -4], [1, 0, 1, 0, 1, 0, 1]), [1]),
+    ("refutes", (2, [], []), [0]),
+    ("refutes", (2, [], [0]), [-1]),
+    ("refutes", (1, [1, 1], [-1]), [-1]),
+    ("drop", (2, 0, [0, 1, 2, 2, 3, 4, -1, 5, 6]), [2, 0, 1, 2, 0, 13, 16]),
+    ("drop", (3, 2, CUBE), [5] + CUBE[:16] + [0, 0, 0, 2]),
+    ("drop", (1, 0, [0, 5]), [1, 0, 5]),
+    ("drop", (1, 0, [1, 5]), [0]),
+    ("drop", (2, 1, []), [0]),
+    ("drop", (2, 2, []), [-1]),
+    ("drop", (2, 0, [1, 2]), [-1]),
 )
 
-PARAMETERS = {"meets": ["d", "q", "sides", "x"], "can": ["d", "sides"]}
+PARAMETERS = {
+    "meets": ["d", "q", "sides", "x"],
+    "can": ["d", "sides"],
+    "refutes": ["d", "sides", "y"],
+    "drop": ["d", "k", "sides"],
+}
 
 
 def copied(given, kind):
@@ -59,8 +77,10 @@ class Interface(unittest.TestCase):
     def test_one_list_handed_in_twice(self):
         row = Held([2, 1])
         self.assertEqual(desk.meets(1, 1, row[:2], row[:1]), [0])
+        self.assertEqual(desk.refutes(1, row, row), [-1])
         row = Held([])
         self.assertEqual(desk.meets(1, 1, row, row), [-1])
+        self.assertEqual(desk.refutes(1, row, row), [0])
 
     def test_nothing_is_kept(self):
         for turn in range(3):

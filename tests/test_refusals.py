@@ -3,38 +3,47 @@
 import unittest
 
 from kit import GREATEST, LOWEST
-from sidesleft.desk import can, meets
+from sidesleft.desk import can, drop, meets, refutes
 
 TOO_MUCH = (1001, -1001, 1000000, GREATEST, LOWEST)
 
 
 class Refusals(unittest.TestCase):
-    def both(self, d, sides, refused):
+    def each_call(self, d, sides, refused):
         """Sides that are refused, or not, by whatever call they are handed to."""
         point = [0] * min(max(d, 0), 4)
-        answers = ([-1],) if refused else ([0], [1])
-        self.assertIn(can(d, sides), answers, (d, sides))
-        self.assertIn(meets(d, 1, sides, point), answers, (d, sides))
+        times = [0] * (len(sides) // (d + 1) if d > 0 else len(sides))
+        for told in (can(d, sides), meets(d, 1, sides, point), refutes(d, sides, times), drop(d, 0, sides)):
+            self.assertEqual(told == [-1], refused, (d, sides))
 
     def test_d(self):
         for d in (1, 2, 3):
-            self.both(d, [], False)
-            self.both(d, [0] * (d + 1), False)
+            self.each_call(d, [], False)
+            self.each_call(d, [0] * (d + 1), False)
         for d in (0, -1, -2, -3, -4, 4, 5, 7, 59, 60, GREATEST, LOWEST):
-            self.both(d, [], True)
-            self.both(d, [0] * min(max(d + 1, 0), 60), True)
-            self.both(d, [0] * 12, True)
+            self.each_call(d, [], True)
+            self.each_call(d, [0] * min(max(d + 1, 0), 60), True)
+            self.each_call(d, [0] * 12, True)
 
     def test_d_with_a_point_of_any_length(self):
         for d in (0, -1, -2, 4, GREATEST, LOWEST):
             for length in (0, 1, 2, 3, 4, 5, 60):
                 self.assertEqual(meets(d, 1, [], [0] * length), [-1], (d, length))
 
+    def test_d_with_whatever_else_is_handed_in(self):
+        for d in (0, -1, -2, 4, GREATEST, LOWEST):
+            for length in (0, 1, 2, 3, 4, 5, 60):
+                self.assertEqual(refutes(d, [], [0] * length), [-1], (d, length))
+                self.assertEqual(refutes(d, [0] * length, [0] * length), [-1], (d, length))
+            for k in (0, 1, 3, -1, -2, d, d - 1, d + 1):
+                self.assertEqual(drop(d, k, []), [-1], (d, k))
+                self.assertEqual(drop(d, k, [0] * 60), [-1], (d, k))
+
     def test_lengths_of_sides(self):
         for d in (1, 2, 3):
             for length in range(61):
                 whole = length % (d + 1) == 0 and length // (d + 1) <= 8
-                self.both(d, [0] * length, not whole)
+                self.each_call(d, [0] * length, not whole)
 
     def test_numbers_of_sides(self):
         for d in (1, 2, 3):
@@ -43,10 +52,10 @@ class Refusals(unittest.TestCase):
                     sides = [0] * (many * (d + 1))
                     for n in (1000, -1000):
                         sides[at] = n
-                        self.both(d, sides, False)
+                        self.each_call(d, sides, False)
                     for n in TOO_MUCH:
                         sides[at] = n
-                        self.both(d, sides, True)
+                        self.each_call(d, sides, True)
 
     def test_lengths_of_x(self):
         for d in (1, 2, 3):
@@ -75,17 +84,58 @@ class Refusals(unittest.TestCase):
                 self.assertEqual(meets(d, q, [], [0] * d), [-1], q)
                 self.assertEqual(meets(d, q, [1] * (d + 1), [0] * d), [-1], q)
 
+    def test_k(self):
+        for d in (1, 2, 3):
+            for sides in ([], [0] * (d + 1), [1] * (d + 1) * 8):
+                for k in range(d):
+                    self.assertNotEqual(drop(d, k, sides), [-1], (d, k))
+                for k in (-1, -2, -3, -4, d, d + 1, 1000, GREATEST, LOWEST):
+                    self.assertEqual(drop(d, k, sides), [-1], (d, k))
+
+    def test_lengths_of_y(self):
+        for d in (1, 2, 3):
+            for many in range(9):
+                for length in range(61):
+                    answer = [0] if length == many else [-1]
+                    self.assertEqual(refutes(d, [1] * (d + 1) * many, [0] * length), answer, (d, many, length))
+
+    def test_y_for_a_part_of_a_side(self):
+        for d in (1, 2, 3):
+            for length in range(1, 36):
+                if length % (d + 1):
+                    for many in (length // (d + 1), length // (d + 1) + 1, length):
+                        self.assertEqual(refutes(d, [0] * length, [0] * many), [-1], (d, length, many))
+
+    def test_numbers_of_y(self):
+        for d in (1, 2, 3):
+            for many in (1, 2, 8):
+                for at in range(many):
+                    y = [0] * many
+                    for n in (0, 1, 1001, 999999999, 1000000000):
+                        y[at] = n
+                        self.assertEqual(refutes(d, [1] * (d + 1) * many, y), [0], y)
+                    for n in (-1, -1000, 1000000001, GREATEST, LOWEST):
+                        y[at] = n
+                        self.assertEqual(refutes(d, [1] * (d + 1) * many, y), [-1], y)
+
     def test_long_rows_of_great_numbers(self):
         for n in (0, 1, GREATEST, LOWEST):
             for d in (LOWEST, -1, 0, 1, 2, 3, 4, GREATEST):
                 self.assertEqual(can(d, [n] * 60), [-1], (d, n))
                 self.assertEqual(meets(d, 1, [n] * 60, [n] * 60), [-1], (d, n))
                 self.assertEqual(meets(d, 1, [], [n] * 60), [-1], (d, n))
+                self.assertEqual(refutes(d, [n] * 60, [n] * 60), [-1], (d, n))
+                self.assertEqual(refutes(d, [], [n] * 60), [-1], (d, n))
+                self.assertEqual(refutes(d, [n] * 60, []), [-1], (d, n))
+                self.assertEqual(drop(d, 0, [n] * 60), [-1], (d, n))
 
     def test_a_side_that_is_missed_does_not_hide_a_refusal(self):
         self.assertEqual(can(1, [0, -1, 1001, 0]), [-1])
         self.assertEqual(meets(1, 1, [0, -1, 1001, 0], [0]), [-1])
         self.assertEqual(meets(1, 0, [0, -1], [0]), [-1])
+        self.assertEqual(refutes(1, [0, -1, 1001, 0], [1, 0]), [-1])
+        self.assertEqual(refutes(1, [0, -1, 1, 0], [1, -1]), [-1])
+        self.assertEqual(drop(1, 0, [1001, 0]), [-1])
 
 
 if __name__ == "__main__":
