@@ -1,6 +1,6 @@
 """The calls. Each takes whole numbers and rows of them, and answers a list of whole numbers."""
 
-from sidesleft.reckon import can_be_met, cut, in_one_row, meets_all, show_none_meets, without
+from sidesleft.reckon import can_be_met, corner_points, cut, in_one_row, meets_all, most_worth, show_none_meets, without
 
 MOST_UNKNOWNS = 3
 MOST_SIDES = 8
@@ -35,6 +35,24 @@ def drop(d, k, sides):
     if not (fit_sides(d, sides) and fit_unknown(d, k)):
         return refusal()
     return counted(without(k, cut(sides, d + 1)))
+
+
+def corners(d, sides):
+    """How many corners the sides have, then these, the least first; -1 is a refusal."""
+    if not fit_sides(d, sides):
+        return refusal()
+    return counted(corner_points(d, cut(sides, d + 1)))
+
+
+def best(d, sides, c):
+    """1, then the most that c makes of a point that meets the sides; 0: no point does; 2: no most; -1 is a refusal."""
+    if not (fit_sides(d, sides) and fit_numbers(c, d)):
+        return refusal()
+    each = cut(sides, d + 1)
+    if not can_be_met(d, each):
+        return [0]
+    most = most_worth(d, each, c)
+    return [2] if most is None else [1] + most
 
 
 def refusal():

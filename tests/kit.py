@@ -61,16 +61,25 @@ def point_on(d, sides):
     return point
 
 
+def points_on(d, row, sizes):
+    """The points that meet the sides and are fixed by so many of them, for every such choice."""
+    for many in sizes:
+        for chosen in combinations(in_sides(d, row), many):
+            point = point_on(d, chosen)
+            if point is not None and point_meets(d, row, point):
+                yield point
+
+
 def some_point(d, row):
     """A point that meets the sides, or None.
 
     If any point does, then so does every point that just meets some of the sides, well chosen
     (those of a least face): each choice of at most d sides is tried.
     """
-    sides = in_sides(d, row)
-    for many in range(d + 1):
-        for chosen in combinations(sides, many):
-            point = point_on(d, chosen)
-            if point is not None and point_meets(d, row, point):
-                return point
-    return None
+    return next(points_on(d, row, range(d + 1)), None)
+
+
+def rank(d, sides):
+    """The most of the sides whose unknowns' numbers don't hang on one another."""
+    return max(many for many in range(d + 1)
+               if any(point_on(d, chosen) is not None for chosen in combinations(sides, many)))

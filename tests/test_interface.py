@@ -38,6 +38,19 @@ CALLS = (
     ("drop", (2, 1, []), [0]),
     ("drop", (2, 2, []), [-1]),
     ("drop", (2, 0, [1, 2]), [-1]),
+    ("corners", (2, [-1, 0, 0, 0, -1, 0, 4, 3, 6]), [3, 0, 0, 1, 0, 2, 1, 3, 0, 2]),
+    ("corners", (3, CUBE[:4] + CUBE[8:12] + CUBE[16:20]), [1, 1, 1, 1, 1]),
+    ("corners", (3, CUBE[:16]), [0]),
+    ("corners", (1, []), [0]),
+    ("corners", (1, [1]), [-1]),
+    ("corners", (4, []), [-1]),
+    ("best", (2, [-1, 0, 0, 0, -1, 0, 4, 3, 6], [3, 1]), [1, 9, 2]),
+    ("best", (3, CUBE, [-3, 2, 0]), [1, 5, 1]),
+    ("best", (3, CUBE + [-1, -1, -1, -4], [1, 0, 0]), [0]),
+    ("best", (3, CUBE[:16], [0, 0, 1]), [2]),
+    ("best", (2, [], [0, 0]), [1, 0, 1]),
+    ("best", (2, [], [0]), [-1]),
+    ("best", (2, [], [0, 1001]), [-1]),
 )
 
 PARAMETERS = {
@@ -45,6 +58,8 @@ PARAMETERS = {
     "can": ["d", "sides"],
     "refutes": ["d", "sides", "y"],
     "drop": ["d", "k", "sides"],
+    "corners": ["d", "sides"],
+    "best": ["d", "sides", "c"],
 }
 
 
@@ -81,6 +96,7 @@ class Interface(unittest.TestCase):
         row = Held([])
         self.assertEqual(desk.meets(1, 1, row, row), [-1])
         self.assertEqual(desk.refutes(1, row, row), [0])
+        self.assertEqual(desk.best(1, row, row), [-1])
 
     def test_nothing_is_kept(self):
         for turn in range(3):

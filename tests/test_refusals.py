@@ -3,7 +3,7 @@
 import unittest
 
 from kit import GREATEST, LOWEST
-from sidesleft.desk import can, drop, meets, refutes
+from sidesleft.desk import best, can, corners, drop, meets, refutes
 
 TOO_MUCH = (1001, -1001, 1000000, GREATEST, LOWEST)
 
@@ -13,7 +13,8 @@ class Refusals(unittest.TestCase):
         """Sides that are refused, or not, by whatever call they are handed to."""
         point = [0] * min(max(d, 0), 4)
         times = [0] * (len(sides) // (d + 1) if d > 0 else len(sides))
-        for told in (can(d, sides), meets(d, 1, sides, point), refutes(d, sides, times), drop(d, 0, sides)):
+        for told in (can(d, sides), meets(d, 1, sides, point), refutes(d, sides, times), drop(d, 0, sides),
+                     corners(d, sides), best(d, sides, point)):
             self.assertEqual(told == [-1], refused, (d, sides))
 
     def test_d(self):
@@ -29,6 +30,7 @@ class Refusals(unittest.TestCase):
         for d in (0, -1, -2, 4, GREATEST, LOWEST):
             for length in (0, 1, 2, 3, 4, 5, 60):
                 self.assertEqual(meets(d, 1, [], [0] * length), [-1], (d, length))
+                self.assertEqual(best(d, [], [0] * length), [-1], (d, length))
 
     def test_d_with_whatever_else_is_handed_in(self):
         for d in (0, -1, -2, 4, GREATEST, LOWEST):
@@ -75,6 +77,26 @@ class Refusals(unittest.TestCase):
                     x[at] = n
                     self.assertEqual(meets(d, 1, [], x), [-1], x)
                     self.assertEqual(meets(d, 1000, [0] * (d + 1), x), [-1], x)
+
+    def test_lengths_of_c(self):
+        for d in (1, 2, 3):
+            for length in range(61):
+                answer = [1, 0, 1] if length == d else [-1]
+                self.assertEqual(best(d, [], [0] * length), answer, (d, length))
+                self.assertEqual(best(d, [0] * (d + 1), [0] * length), answer, (d, length))
+
+    def test_numbers_of_c(self):
+        for d in (1, 2, 3):
+            for at in range(d):
+                c = [0] * d
+                for n in (1000, -1000):
+                    c[at] = n
+                    self.assertEqual(best(d, [], c), [2], c)
+                for n in TOO_MUCH:
+                    c[at] = n
+                    self.assertEqual(best(d, [], c), [-1], c)
+                    self.assertEqual(best(d, [0] * (d + 1), c), [-1], c)
+                    self.assertEqual(best(d, [0] * d + [-1], c), [-1], c)
 
     def test_q(self):
         for d in (1, 2, 3):
@@ -128,6 +150,10 @@ class Refusals(unittest.TestCase):
                 self.assertEqual(refutes(d, [], [n] * 60), [-1], (d, n))
                 self.assertEqual(refutes(d, [n] * 60, []), [-1], (d, n))
                 self.assertEqual(drop(d, 0, [n] * 60), [-1], (d, n))
+                self.assertEqual(corners(d, [n] * 60), [-1], (d, n))
+                self.assertEqual(best(d, [n] * 60, [n] * 60), [-1], (d, n))
+                self.assertEqual(best(d, [n] * 60, [0] * min(max(d, 0), 4)), [-1], (d, n))
+                self.assertEqual(best(d, [], [n] * 60), [-1], (d, n))
 
     def test_a_side_that_is_missed_does_not_hide_a_refusal(self):
         self.assertEqual(can(1, [0, -1, 1001, 0]), [-1])
@@ -136,6 +162,9 @@ class Refusals(unittest.TestCase):
         self.assertEqual(refutes(1, [0, -1, 1001, 0], [1, 0]), [-1])
         self.assertEqual(refutes(1, [0, -1, 1, 0], [1, -1]), [-1])
         self.assertEqual(drop(1, 0, [1001, 0]), [-1])
+        self.assertEqual(corners(1, [0, -1, 1001, 0]), [-1])
+        self.assertEqual(best(1, [0, -1, 1001, 0], [0]), [-1])
+        self.assertEqual(best(1, [0, -1], [0, 0]), [-1])
 
 
 if __name__ == "__main__":
