@@ -1,9 +1,11 @@
 """The calls. Each takes whole numbers and rows of them, and answers a list of whole numbers."""
 
-from sidesleft.reckon import can_be_met, corner_points, cut, in_one_row, meets_all, most_worth, show_none_meets, without
+from sidesleft.reckon import can_be_met, corner_points, cut, in_one_row, is_between, meets_all, most_worth
+from sidesleft.reckon import parts_from, show_none_meets, without
 
 MOST_UNKNOWNS = 3
 MOST_SIDES = 8
+MOST_POINTS = 6
 MOST_DIVISOR = 1000
 MOST_NUMBER = 1000
 MOST_TIMES = 1000000000
@@ -55,6 +57,20 @@ def best(d, sides, c):
     return [2] if most is None else [1] + most
 
 
+def between(d, points, x):
+    """1 if x is between the points, else 0; -1 is a refusal."""
+    if not (fit_points(d, points) and fit_numbers(x, d)):
+        return refusal()
+    return yes_or_no(is_between(d, cut(points, d), x))
+
+
+def parts(d, points, x, side):
+    """1 if all of the points meet the side and x doesn't, else 0; -1 is a refusal."""
+    if not (fit_points(d, points) and fit_numbers(x, d) and fit_numbers(side, d + 1)):
+        return refusal()
+    return yes_or_no(parts_from(cut(points, d), x, side))
+
+
 def refusal():
     return [-1]
 
@@ -93,10 +109,18 @@ def fit_times(row, size):
     return fit_row(row, size, 0, MOST_TIMES)
 
 
+def fit_rows(row, size, fewest, most):
+    """Whether the row is so many rows of size numbers each, one behind another."""
+    many = len(row) // size
+    return fewest <= many <= most and fit_numbers(row, many * size)
+
+
 def fit_sides(d, sides):
     """Whether d is in its range, and the row is 0 to 8 sides of d + 1 numbers each."""
     # d comes first: d + 1 may be 0 where d is out of its range.
-    if not fit_unknowns(d):
-        return False
-    many = len(sides) // (d + 1)
-    return many <= MOST_SIDES and fit_numbers(sides, many * (d + 1))
+    return fit_unknowns(d) and fit_rows(sides, d + 1, 0, MOST_SIDES)
+
+
+def fit_points(d, points):
+    """Whether d is in its range, and the row is 1 to 6 points of d numbers each."""
+    return fit_unknowns(d) and fit_rows(points, d, 1, MOST_POINTS)

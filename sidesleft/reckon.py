@@ -1,4 +1,4 @@
-"""Exact reckoning with sides. A side is a list: a number for each unknown, and b behind them."""
+"""Exact reckoning with sides and points. A side is a list: a number for each unknown, and b behind them."""
 
 
 def cut(row, size):
@@ -162,3 +162,16 @@ def corner_points(d, sides):
         if point is not None and point not in found and meets_all(sides, point[d], point[:d]):
             found.append(point)
     return in_order(d, found)
+
+
+def is_between(d, points, x):
+    """Whether x, of whole numbers, is between the points."""
+    # Weights that make x the mean of the points are just the multipliers that refute these sides in unknowns a, which
+    # say that a makes less of each point than of x: by 1 at least, as a may be taken as often as it needs.
+    steps = [[point[k] - x[k] for k in range(d)] for point in points]
+    return not can_be_met(d, [step + [-1] for step in steps])
+
+
+def parts_from(points, x, side):
+    """Whether the side is met by each of the points, and not by x."""
+    return all([is_met(side, 1, point) for point in points]) and not is_met(side, 1, x)

@@ -35,6 +35,10 @@ def in_sides(d, row):
     return [row[i:i + d + 1] for i in range(0, len(row), d + 1)]
 
 
+def in_points(d, row):
+    return in_sides(d - 1, row)
+
+
 def point_meets(d, row, point):
     """point: fractions."""
     return all(sum((a * p for a, p in zip(side[:d], point)), Fraction(0)) <= side[d]
@@ -83,3 +87,20 @@ def rank(d, sides):
     """The most of the sides whose unknowns' numbers don't hang on one another."""
     return max(many for many in range(d + 1)
                if any(point_on(d, chosen) is not None for chosen in combinations(sides, many)))
+
+
+def weights_for(d, row, x):
+    """A weight for each of the points, fractions that add up to 1, so that x is their mean; or None.
+
+    If there are any, then some d + 1 points at most, well chosen, have weights that nothing else could be.
+    """
+    points = in_points(d, row)
+    for many in range(1, d + 2):
+        for chosen in combinations(range(len(points)), many):
+            equal = [[points[at][k] for at in chosen] + [x[k]] for k in range(d)] + [[1] * (many + 1)]
+            for some in combinations(equal, many):
+                found = point_on(many, some)
+                if found is not None and min(found) >= 0 and all(
+                        sum(n * f for n, f in zip(line, found)) == line[many] for line in equal):
+                    return [dict(zip(chosen, found)).get(at, Fraction(0)) for at in range(len(points))]
+    return None

@@ -51,6 +51,20 @@ CALLS = (
     ("best", (2, [], [0, 0]), [1, 0, 1]),
     ("best", (2, [], [0]), [-1]),
     ("best", (2, [], [0, 1001]), [-1]),
+    ("between", (1, [4, -2, 0], [3]), [1]),
+    ("between", (2, [0, 0, 3, 0, 0, 3], [1, 1]), [1]),
+    ("between", (2, [0, 0, 3, 0, 0, 3], [2, 2]), [0]),
+    ("between", (3, [0, 0, 0, 4, 0, 0, 0, 4, 0, 0, 0, 4, 1, 1, 1, 2, 2, 0], [1, 1, 2]), [1]),
+    ("between", (3, [0, 0, 0, 4, 0, 0, 0, 4, 0, 0, 0, 4, 1, 1, 1, 2, 2, 0], [1, 2, 2]), [0]),
+    ("between", (2, [], [0, 0]), [-1]),
+    ("between", (2, [0, 0, 1], [0, 0]), [-1]),
+    ("between", (0, [], []), [-1]),
+    ("parts", (1, [4, -2, 0], [5], [1, 4]), [1]),
+    ("parts", (1, [4, -2, 0], [5], [1, 5]), [0]),
+    ("parts", (3, [0, 0, 0, 4, 0, 0, 0, 4, 0], [2, 2, 1], [1, 1, 1, 4]), [1]),
+    ("parts", (3, [0, 0, 0, 4, 0, 0, 0, 4, 0], [2, 2, 1], [1, 1, 1, 3]), [0]),
+    ("parts", (2, [0, 0], [1, 1], [1, 0]), [-1]),
+    ("parts", (2, [0, 0], [1, 1], [1, 0, -1001]), [-1]),
 )
 
 PARAMETERS = {
@@ -60,6 +74,8 @@ PARAMETERS = {
     "drop": ["d", "k", "sides"],
     "corners": ["d", "sides"],
     "best": ["d", "sides", "c"],
+    "between": ["d", "points", "x"],
+    "parts": ["d", "points", "x", "side"],
 }
 
 
@@ -97,6 +113,12 @@ class Interface(unittest.TestCase):
         self.assertEqual(desk.meets(1, 1, row, row), [-1])
         self.assertEqual(desk.refutes(1, row, row), [0])
         self.assertEqual(desk.best(1, row, row), [-1])
+        row = Held([2])
+        self.assertEqual(desk.between(1, row, row), [1])
+        self.assertEqual(desk.parts(1, row, row, row), [-1])
+        row = Held([2, 1])
+        self.assertEqual(desk.between(2, row, row), [1])
+        self.assertEqual(desk.parts(1, row, row[:1], row), [0])
 
     def test_nothing_is_kept(self):
         for turn in range(3):

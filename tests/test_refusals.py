@@ -3,7 +3,7 @@
 import unittest
 
 from kit import GREATEST, LOWEST
-from sidesleft.desk import best, can, corners, drop, meets, refutes
+from sidesleft.desk import best, between, can, corners, drop, meets, parts, refutes
 
 TOO_MUCH = (1001, -1001, 1000000, GREATEST, LOWEST)
 
@@ -165,6 +165,112 @@ class Refusals(unittest.TestCase):
         self.assertEqual(corners(1, [0, -1, 1001, 0]), [-1])
         self.assertEqual(best(1, [0, -1, 1001, 0], [0]), [-1])
         self.assertEqual(best(1, [0, -1], [0, 0]), [-1])
+
+
+class RefusalsOfPoints(unittest.TestCase):
+    def each_call(self, d, points, refused):
+        """Points that are refused, or not, by whatever call they are handed to."""
+        size = min(max(d, 0), 4)
+        for told in (between(d, points, [0] * size), parts(d, points, [0] * size, [0] * (size + 1))):
+            self.assertEqual(told == [-1], refused, (d, points))
+
+    def test_d(self):
+        for d in (1, 2, 3):
+            self.each_call(d, [0] * d, False)
+        for d in (0, -1, -2, -3, -4, 4, 5, 7, 59, 60, GREATEST, LOWEST):
+            self.each_call(d, [], True)
+            self.each_call(d, [0] * min(max(d, 0), 60), True)
+            self.each_call(d, [0] * 12, True)
+
+    def test_d_with_whatever_else_is_handed_in(self):
+        for d in (0, -1, -2, 4, GREATEST, LOWEST):
+            for length in (0, 1, 2, 3, 4, 5, 60):
+                for many in (0, 1, 4, 12, 60):
+                    self.assertEqual(between(d, [0] * many, [0] * length), [-1], (d, length))
+                    self.assertEqual(parts(d, [0] * many, [0] * length, [0] * length), [-1], (d, length))
+                    self.assertEqual(parts(d, [0] * many, [0] * length, [0] * (length + 1)), [-1], (d, length))
+
+    def test_lengths_of_points(self):
+        for d in (1, 2, 3):
+            for length in range(61):
+                whole = length % d == 0 and 1 <= length // d <= 6
+                self.each_call(d, [0] * length, not whole)
+
+    def test_numbers_of_points(self):
+        for d in (1, 2, 3):
+            for many in (1, 6):
+                for at in range(many * d):
+                    points = [0] * (many * d)
+                    for n in (1000, -1000):
+                        points[at] = n
+                        self.each_call(d, points, False)
+                    for n in TOO_MUCH:
+                        points[at] = n
+                        self.each_call(d, points, True)
+
+    def test_lengths_of_x(self):
+        for d in (1, 2, 3):
+            for many in (1, 2, 6):
+                for length in range(61):
+                    points = [0] * (d * many)
+                    x = [0] * length
+                    self.assertEqual(between(d, points, x), [1] if length == d else [-1], (d, length))
+                    self.assertEqual(parts(d, points, x, [0] * (d + 1)), [0] if length == d else [-1], (d, length))
+
+    def test_numbers_of_x(self):
+        for d in (1, 2, 3):
+            for at in range(d):
+                x = [0] * d
+                side = [0] * (d + 1)
+                for n in (1000, -1000):
+                    x[at] = n
+                    side[at] = n
+                    self.assertEqual(between(d, [0] * d, x), [0], x)
+                    self.assertEqual(parts(d, [0] * d, x, side), [1], x)
+                for n in TOO_MUCH:
+                    x[at] = n
+                    self.assertEqual(between(d, [0] * d, x), [-1], x)
+                    self.assertEqual(parts(d, [0] * d, x, side), [-1], x)
+
+    def test_lengths_of_a_side_alone(self):
+        for d in (1, 2, 3):
+            for many in (1, 2, 6):
+                for length in range(61):
+                    answer = [0] if length == d + 1 else [-1]
+                    self.assertEqual(parts(d, [0] * (d * many), [0] * d, [0] * length), answer, (d, length))
+
+    def test_numbers_of_a_side_alone(self):
+        for d in (1, 2, 3):
+            for at in range(d + 1):
+                side = [0] * (d + 1)
+                for n in (1000, -1000):
+                    side[at] = n
+                    self.assertEqual(parts(d, [0] * d, [0] * d, side), [0], side)
+                for n in TOO_MUCH:
+                    side[at] = n
+                    self.assertEqual(parts(d, [0] * d, [0] * d, side), [-1], side)
+
+    def test_long_rows_of_great_numbers(self):
+        for n in (0, 1, GREATEST, LOWEST):
+            long = [n] * 60
+            for d in (LOWEST, -1, 0, 1, 2, 3, 4, GREATEST):
+                size = min(max(d, 0), 4)
+                self.assertEqual(between(d, long, long), [-1], (d, n))
+                self.assertEqual(between(d, long, [0] * size), [-1], (d, n))
+                self.assertEqual(between(d, [0] * size, long), [-1], (d, n))
+                self.assertEqual(parts(d, long, long, long), [-1], (d, n))
+                self.assertEqual(parts(d, long, [0] * size, [0] * (size + 1)), [-1], (d, n))
+                self.assertEqual(parts(d, [0] * size, long, [0] * (size + 1)), [-1], (d, n))
+                self.assertEqual(parts(d, [0] * size, [0] * size, long), [-1], (d, n))
+
+    def test_what_is_settled_does_not_hide_a_refusal(self):
+        self.assertEqual(between(1, [0, 1001], [0]), [-1])  # x is one of the points
+        self.assertEqual(between(1, [0, 2, 1001], [1]), [-1])
+        self.assertEqual(between(2, [0, 0, 0], [0, 0]), [-1])
+        self.assertEqual(parts(1, [1, 1001], [0], [1, 0]), [-1])  # a point breaks the side
+        self.assertEqual(parts(1, [1], [1001], [1, 0]), [-1])
+        self.assertEqual(parts(1, [0], [0], [1001, 0]), [-1])  # x meets the side
+        self.assertEqual(parts(1, [0], [0], [0, 1001]), [-1])
 
 
 if __name__ == "__main__":
