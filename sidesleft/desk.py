@@ -1,7 +1,7 @@
 """The calls. Each takes whole numbers and rows of them, and answers a list of whole numbers."""
 
-from sidesleft.reckon import can_be_met, corner_points, cut, in_one_row, is_between, meets_all, most_worth
-from sidesleft.reckon import parts_from, show_none_meets, without
+from sidesleft.reckon import can_be_met, corner_points, cut, in_one_row, is_between, is_mean, meets_all
+from sidesleft.reckon import most_worth, parts_from, show_none_meets, without
 
 MOST_UNKNOWNS = 3
 MOST_SIDES = 8
@@ -69,6 +69,13 @@ def parts(d, points, x, side):
     if not (fit_points(d, points) and fit_numbers(x, d) and fit_numbers(side, d + 1)):
         return refusal()
     return yes_or_no(parts_from(cut(points, d), x, side))
+
+
+def gives(d, points, x, w):
+    """1 if w are weights with which x is the points' weighted mean, else 0; -1 is a refusal."""
+    if not (fit_points(d, points) and fit_numbers(x, d) and fit_times(w, len(points) // d)):
+        return refusal()
+    return yes_or_no(is_mean(d, cut(points, d), x, w))
 
 
 def refusal():

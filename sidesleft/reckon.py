@@ -27,9 +27,9 @@ def meets_all(sides, q, x):
     return all([is_met(side, q, x) for side in sides])
 
 
-def together(sides, y, i):
-    """Number i of the sides, added up so many times each as y says."""
-    return sum([side[i] * times for side, times in zip(sides, y)])
+def together(rows, times, i):
+    """Number i of the rows (sides or points), added up so many times each as is told."""
+    return sum([row[i] * often for row, often in zip(rows, times)])
 
 
 def show_none_meets(d, sides, y):
@@ -175,3 +175,10 @@ def is_between(d, points, x):
 def parts_from(points, x, side):
     """Whether the side is met by each of the points, and not by x."""
     return all([is_met(side, 1, point) for point in points]) and not is_met(side, 1, x)
+
+
+def is_mean(d, points, x, w):
+    """Whether w are weights, not all 0, with which x is the mean of the points."""
+    total = sum(w)
+    # x is taken as often as all the points, in the place of dividing by that.
+    return total > 0 and all([together(points, w, k) == total * x[k] for k in range(d)])

@@ -3,7 +3,7 @@
 import unittest
 
 from kit import GREATEST, LOWEST
-from sidesleft.desk import best, between, can, corners, drop, meets, parts, refutes
+from sidesleft.desk import best, between, can, corners, drop, gives, meets, parts, refutes
 
 TOO_MUCH = (1001, -1001, 1000000, GREATEST, LOWEST)
 
@@ -171,7 +171,9 @@ class RefusalsOfPoints(unittest.TestCase):
     def each_call(self, d, points, refused):
         """Points that are refused, or not, by whatever call they are handed to."""
         size = min(max(d, 0), 4)
-        for told in (between(d, points, [0] * size), parts(d, points, [0] * size, [0] * (size + 1))):
+        weights = [1] * (len(points) // d if d > 0 else len(points))
+        for told in (between(d, points, [0] * size), parts(d, points, [0] * size, [0] * (size + 1)),
+                     gives(d, points, [0] * size, weights)):
             self.assertEqual(told == [-1], refused, (d, points))
 
     def test_d(self):
@@ -189,6 +191,8 @@ class RefusalsOfPoints(unittest.TestCase):
                     self.assertEqual(between(d, [0] * many, [0] * length), [-1], (d, length))
                     self.assertEqual(parts(d, [0] * many, [0] * length, [0] * length), [-1], (d, length))
                     self.assertEqual(parts(d, [0] * many, [0] * length, [0] * (length + 1)), [-1], (d, length))
+                    self.assertEqual(gives(d, [0] * many, [0] * length, [1] * many), [-1], (d, length))
+                    self.assertEqual(gives(d, [0] * many, [0] * length, [1] * length), [-1], (d, length))
 
     def test_lengths_of_points(self):
         for d in (1, 2, 3):
@@ -216,6 +220,7 @@ class RefusalsOfPoints(unittest.TestCase):
                     x = [0] * length
                     self.assertEqual(between(d, points, x), [1] if length == d else [-1], (d, length))
                     self.assertEqual(parts(d, points, x, [0] * (d + 1)), [0] if length == d else [-1], (d, length))
+                    self.assertEqual(gives(d, points, x, [1] * many), [1] if length == d else [-1], (d, length))
 
     def test_numbers_of_x(self):
         for d in (1, 2, 3):
@@ -227,10 +232,13 @@ class RefusalsOfPoints(unittest.TestCase):
                     side[at] = n
                     self.assertEqual(between(d, [0] * d, x), [0], x)
                     self.assertEqual(parts(d, [0] * d, x, side), [1], x)
+                    self.assertEqual(gives(d, [0] * d, x, [1]), [0], x)
+                    self.assertEqual(gives(d, x, x, [1]), [1], x)
                 for n in TOO_MUCH:
                     x[at] = n
                     self.assertEqual(between(d, [0] * d, x), [-1], x)
                     self.assertEqual(parts(d, [0] * d, x, side), [-1], x)
+                    self.assertEqual(gives(d, [0] * d, x, [1]), [-1], x)
 
     def test_lengths_of_a_side_alone(self):
         for d in (1, 2, 3):
@@ -250,6 +258,32 @@ class RefusalsOfPoints(unittest.TestCase):
                     side[at] = n
                     self.assertEqual(parts(d, [0] * d, [0] * d, side), [-1], side)
 
+    def test_lengths_of_w(self):
+        for d in (1, 2, 3):
+            for many in range(1, 7):
+                for length in range(61):
+                    answer = [1] if length == many else [-1]
+                    self.assertEqual(gives(d, [0] * (d * many), [0] * d, [1] * length), answer, (d, many, length))
+
+    def test_w_for_a_part_of_a_point(self):
+        for d in (2, 3):
+            for length in range(1, 21):
+                if length % d:
+                    for many in (length // d, length // d + 1, length):
+                        self.assertEqual(gives(d, [0] * length, [0] * d, [1] * many), [-1], (d, length, many))
+
+    def test_numbers_of_w(self):
+        for d in (1, 2, 3):
+            for many in (1, 2, 6):
+                for at in range(many):
+                    w = [1] * many
+                    for n in (1, 1001, 999999999, 1000000000):
+                        w[at] = n
+                        self.assertEqual(gives(d, [5] * d * many, [5] * d, w), [1], w)
+                    for n in (-1, -1000, 1000000001, GREATEST, LOWEST):
+                        w[at] = n
+                        self.assertEqual(gives(d, [5] * d * many, [5] * d, w), [-1], w)
+
     def test_long_rows_of_great_numbers(self):
         for n in (0, 1, GREATEST, LOWEST):
             long = [n] * 60
@@ -262,6 +296,10 @@ class RefusalsOfPoints(unittest.TestCase):
                 self.assertEqual(parts(d, long, [0] * size, [0] * (size + 1)), [-1], (d, n))
                 self.assertEqual(parts(d, [0] * size, long, [0] * (size + 1)), [-1], (d, n))
                 self.assertEqual(parts(d, [0] * size, [0] * size, long), [-1], (d, n))
+                self.assertEqual(gives(d, long, long, long), [-1], (d, n))
+                self.assertEqual(gives(d, long, [0] * size, long), [-1], (d, n))
+                self.assertEqual(gives(d, [0] * size, long, [1]), [-1], (d, n))
+                self.assertEqual(gives(d, [0] * size, [0] * size, long), [-1], (d, n))
 
     def test_what_is_settled_does_not_hide_a_refusal(self):
         self.assertEqual(between(1, [0, 1001], [0]), [-1])  # x is one of the points
@@ -271,6 +309,10 @@ class RefusalsOfPoints(unittest.TestCase):
         self.assertEqual(parts(1, [1], [1001], [1, 0]), [-1])
         self.assertEqual(parts(1, [0], [0], [1001, 0]), [-1])  # x meets the side
         self.assertEqual(parts(1, [0], [0], [0, 1001]), [-1])
+        self.assertEqual(gives(1, [0, 1001], [0], [1, 0]), [-1])  # the weight of what's refused is 0
+        self.assertEqual(gives(1, [0, 1001], [0], [0, 0]), [-1])  # all weights are 0
+        self.assertEqual(gives(1, [0, 1], [1001], [0, 0]), [-1])
+        self.assertEqual(gives(1, [0, 0], [0], [2, -1]), [-1])  # they would give it
 
 
 if __name__ == "__main__":
